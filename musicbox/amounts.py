@@ -1,4 +1,4 @@
-"""Amounts of cents: the ten bytes that stand for one, its bounds, and rounding to the cent."""
+"""Amounts of cents: the ten bytes that stand for one, and its bounds."""
 
 DIGIT_BYTES = 9
 PLUS = 0
@@ -29,6 +29,14 @@ def read_amount(row):
     return -cents if row[DIGIT_BYTES] == MINUS else cents
 
 
+def read_at_least(row, least):
+    """Give back the cents that ten bytes stand for, or None where they are no amount or less than least."""
+    cents = read_amount(row)
+    if cents is None or cents < least:
+        return None
+    return cents
+
+
 def write_amount(cents):
     """Give back the ten bytes of an amount that fits."""
     row = []
@@ -38,12 +46,3 @@ def write_amount(cents):
         rest = rest // 100
     row.append(MINUS if cents < 0 else PLUS)
     return row
-
-
-def to_the_cent(dividend, divisor):
-    """Give back the whole number nearest to dividend / divisor, of two the even one."""
-    cents = dividend // divisor
-    twice_left = dividend % divisor * 2
-    if twice_left > divisor or (twice_left == divisor and cents % 2 == 1):
-        return cents + 1
-    return cents

@@ -1,7 +1,11 @@
 """The desk: takes a list of calls on one new machine and gives back what they answer."""
 
+from musicbox.levels import level
 from musicbox.machine import Machine, init
-from musicbox.till import coin
+from musicbox.mixer import mix
+from musicbox.owners import bonus, interest
+from musicbox.statements import owed, tell, text
+from musicbox.till import coin, pay
 from musicbox.tracks import load, price
 from musicbox.voices import buy, echo, fade, stop
 
@@ -12,10 +16,17 @@ COIN = 3
 BUY = 4
 FADE = 5
 STOP = 6
+ECHO = 7
+MIX = 8
+PAY = 10
+INTEREST = 11
+BONUS = 12
+TELL = 13
+OWED = 14
 
 # By a call's number: how many whole numbers it has, and whether a row stands behind them.
-WHOLE_NUMBERS = (0, 3, 3, 0, 5, 4, 1, 2)
-WITH_ROW = (False, True, True, True, False, False, False, False)
+WHOLE_NUMBERS = (0, 3, 3, 0, 5, 4, 1, 2, 4, 0, 2, 3, 0, 1, 0, 1)
+WITH_ROW = (False, True, True, True, False, False, False, False, True, False, True, False, True, False, False, False)
 
 
 class Reader:
@@ -57,8 +68,6 @@ def answers(calls):
 def answer_next(machine, reader):
     """Carry out the reader's next call and give back what it answers."""
     number = reader.take_one()
-    if number >= len(WHOLE_NUMBERS):
-        raise NotImplementedError(f"call {number}")
     numbers = reader.take_many(WHOLE_NUMBERS[number])
     row = reader.take_row() if WITH_ROW[number] else []
     return answer_to(machine, number, numbers, row)
@@ -66,6 +75,8 @@ def answer_next(machine, reader):
 
 def answer_to(machine, number, numbers, row):
     """Carry out the call of that number and give back what it answers."""
+    if number >= PAY:
+        return answer_of_accounts(machine, number, numbers, row)
     if number == INIT:
         return init(machine)
     if number == LOAD:
@@ -80,4 +91,23 @@ def answer_to(machine, number, numbers, row):
         return fade(machine, numbers[0], numbers[1], numbers[2], numbers[3])
     if number == STOP:
         return stop(machine, numbers[0])
-    return echo(machine, numbers[0], numbers[1])
+    if number == ECHO:
+        return echo(machine, numbers[0], numbers[1])
+    if number == MIX:
+        return mix(machine, numbers[0], numbers[1], numbers[2], numbers[3], row)
+    return level(machine)
+
+
+def answer_of_accounts(machine, number, numbers, row):
+    """Carry out a call from pay on and give back what it answers."""
+    if number == PAY:
+        return pay(machine, numbers[0], numbers[1], row)
+    if number == INTEREST:
+        return interest(machine, numbers[0], numbers[1], numbers[2])
+    if number == BONUS:
+        return bonus(machine, row)
+    if number == TELL:
+        return tell(machine, numbers[0])
+    if number == OWED:
+        return owed(machine)
+    return text(machine, numbers[0])

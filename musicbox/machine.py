@@ -1,4 +1,4 @@
-"""What the machine keeps from call to call: tracks, voices, the echo, accounts, levels."""
+"""What the machine keeps from call to call: tracks, voices, the echo, accounts, levels, ends and swing."""
 
 TRACKS = 8
 VOICES = 8
@@ -7,10 +7,12 @@ ACCOUNTS = 16
 TILL = 0
 UNSPENT = 1
 HOUSE = 2
+FIRST_OWNER = 3
 
 WHOLE_SHARE = 10000
 
 OUT_OF_RANGE = -1
+TOO_MANY_DIGITS = -2
 
 
 class Track:
@@ -59,6 +61,8 @@ class Machine:
         self.echo = Echo(0, 0)
         self.accounts = [0] * ACCOUNTS
         self.levels = [0, 0]
+        self.ends = 0
+        self.swing = 0
 
 
 def init(machine):
@@ -80,3 +84,8 @@ def is_loaded(machine, k):
 def is_voice(v):
     """Tell whether there is a voice of that number, playing or not."""
     return 0 <= v < VOICES
+
+
+def is_account(a):
+    """Tell whether there is an account of that number."""
+    return 0 <= a < ACCOUNTS

@@ -1,6 +1,6 @@
 """The calls that make a track and set its price: load and price."""
 
-from musicbox.amounts import read_amount
+from musicbox.amounts import read_at_least
 from musicbox.machine import ACCOUNTS, HOUSE, OUT_OF_RANGE, VOICES, WHOLE_SHARE, Track, is_loaded, is_track
 
 ONE_BYTE_KINDS = (0, 1)
@@ -51,8 +51,8 @@ def price(machine, k, owner, share, row):
     """Answer the call price."""
     if not is_loaded(machine, k) or not HOUSE <= owner < ACCOUNTS or not 0 <= share <= WHOLE_SHARE:
         return [OUT_OF_RANGE]
-    cost = read_amount(row)
-    if cost is None or cost < 0:
+    cost = read_at_least(row, 0)
+    if cost is None:
         return [OUT_OF_RANGE]
     track = machine.tracks[k]
     track.cost = cost

@@ -1,5 +1,7 @@
 """Calls as numbers, and ways to look at the machine that they leave behind."""
 
+import struct
+
 from musicbox.desk import Reader, answer_next, answers
 from musicbox.machine import Machine
 
@@ -7,6 +9,8 @@ MOST = 10 ** 18 - 1
 LEAST_WHOLE = -2147483648
 MOST_WHOLE = 2147483647
 BYTES_A_FRAME = {0: 1, 1: 2, 2: 2, 3: 4}
+MIXED_BYTES_A_FRAME = {0: 4, 1: 2, 2: 2}
+HANDED = 0xEE
 
 
 def amount(cents):
@@ -44,6 +48,12 @@ def load(k, kind, frames, row=None):
     return [1, k, kind, frames, len(row)] + row
 
 
+def load_frames(k, frames):
+    """A load of frames, each of a left sample and a right one."""
+    row = [byte for frame in frames for byte in struct.pack("<hh", *frame)]
+    return load(k, 3, len(frames), row)
+
+
 def price_bytes(k, owner, share, row):
     return [2, k, owner, share, len(row)] + row
 
@@ -76,36 +86,142 @@ def echo(frames, gain):
     return [7, frames, gain]
 
 
+def mix(n, form=0, how=0, gate=-1, row=None):
+    """A mix with just as many bytes as are to be handed: all the same, if none are given."""
+    if row is None:
+        in_range = 0 <= n <= 1024 and form in MIXED_BYTES_A_FRAME and 0 <= how <= 3 and -1 <= gate <= 32767
+        row = [HANDED] * (MIXED_BYTES_A_FRAME[form] * n) if in_range else []
+    return [8, n, form, how, gate, len(row)] + row
+
+
+def level():
+    return [9]
+
+
+def pay_bytes(payer, to, row):
+    return [10, payer, to, len(row)] + row
+
+
+def pay(payer, to, cents):
+    return pay_bytes(payer, to, amount(cents))
+
+
+def interest(a, rate, periods):
+    return [11, a, rate, periods]
+
+
+def bonus_bytes(row):
+    return [12, len(row)] + row
+
+
+def bonus(cents):
+    return bonus_bytes(amount(cents))
+
+
+def tell(a):
+    return [13, a]
+
+
+def owed():
+    return [14]
+
+
+def text(a):
+    return [15, a]
+
+
 def line(*calls):
     return [number for call in calls for number in call]
 
 
+def parted(given):
+    """What answers() gave back, as a list of each call's numbers."""
+    parts = []
+    place = 0
+    while place < len(given):
+        parts.append(given[place + 1:place + 1 + given[place]])
+        place += 1 + given[place]
+    if place != len(given):
+        raise AssertionError(f"fewer numbers than were told: {given}")
+    return parts
+
+
+def numbers_answered(call):
+    """How many numbers a call answers that isn't refused."""
+    if call[0] == 8:
+        return len(call) - 5
+    return {9: 25, 13: 11, 14: 11, 15: 27}.get(call[0], 1)
+
+
+def whole_answers(*calls):
+    """All numbers that each call answers; how many they are is seen to here."""
+    parts = parted(answers(line(*calls)))
+    if len(parts) != len(calls):
+        raise AssertionError(f"not one answer for each call: {parts}")
+    for call, part in zip(calls, parts):
+        if len(part) != (1 if part[0] < 0 else numbers_answered(call)):
+            raise AssertionError(f"too few or too many numbers: {call}, {part}")
+    return parts
+
+
 def answered(*calls):
-    """The first number that each call answers; each must answer that number alone."""
-    given = answers(line(*calls))
-    counts = given[0::2]
-    if counts != [1] * len(calls):
-        raise AssertionError(f"not one number for each call: {given}")
-    return given[1::2]
+    """The first number that each call answers."""
+    return [part[0] for part in whole_answers(*calls)]
 
 
 def last(*calls):
     return answered(*calls)[-1]
 
 
-def carry_out(machine, *calls):
-    """Carry out calls on a machine that is at hand; the first number that each answers."""
+def last_whole(*calls):
+    return whole_answers(*calls)[-1]
+
+
+def carry_out_whole(machine, *calls):
+    """Carry out calls on a machine that is at hand; all numbers that each answers."""
     reader = Reader(line(*calls))
     given = []
     while not reader.at_end():
-        given.append(answer_next(machine, reader)[0])
+        given.append(answer_next(machine, reader))
     return given
+
+
+def carry_out(machine, *calls):
+    """Carry out calls on a machine that is at hand; the first number that each answers."""
+    return [answer[0] for answer in carry_out_whole(machine, *calls)]
 
 
 def machine_after(*calls):
     machine = Machine()
     carry_out(machine, *calls)
     return machine
+
+
+def machine_with(accounts, *calls):
+    """A machine after init and the calls, whose accounts named in the dict have other balances."""
+    machine = machine_after(init(), *calls)
+    for account, cents in accounts.items():
+        machine.accounts[account] = cents
+    return machine
+
+
+def frames_in(answer):
+    """The frames, left and right, that a mix of form 0 answers."""
+    return list(struct.iter_unpack("<hh", bytes(answer[1:])))
+
+
+def heard(*calls):
+    """The frames, left and right, of all mixes among the calls; these are of form 0."""
+    frames = []
+    for call, answer in zip(calls, whole_answers(*calls)):
+        if call[0] == 8:
+            frames += frames_in(answer)
+    return frames
+
+
+def told_levels(answer):
+    """The left level, the right one, ends and swing that a level answers."""
+    return struct.unpack("<IIQQ", bytes(answer[1:]))
 
 
 def picture(value):

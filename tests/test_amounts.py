@@ -2,7 +2,8 @@
 
 import unittest
 
-from musicbox.amounts import fits, read_amount, to_the_cent, write_amount
+from musicbox.amounts import fits, read_amount, read_at_least, write_amount
+from musicbox.rounding import to_the_nearest
 from tests.helper import MOST, NO_AMOUNTS, ZERO_BELOW, amount
 
 WRITTEN = (
@@ -39,6 +40,13 @@ class TestAmounts(unittest.TestCase):
         for row in NO_AMOUNTS:
             self.assertIsNone(read_amount(row), row)
 
+    def test_amounts_of_at_least_so_much(self):
+        for cents, least, read in ((0, 0, 0), (-1, 0, None), (0, 1, None), (1, 1, 1), (MOST, 1, MOST), (-MOST, 0, None)):
+            self.assertEqual(read_at_least(amount(cents), least), read)
+        self.assertEqual(read_at_least(ZERO_BELOW, 0), 0)
+        for row in NO_AMOUNTS:
+            self.assertIsNone(read_at_least(row, 0), row)
+
     def test_every_byte_in_every_place(self):
         for place in range(9):
             for byte in range(256):
@@ -66,12 +74,12 @@ class TestToTheCent(unittest.TestCase):
             (-14, 10, -1), (-15, 10, -2), (-16, 10, -2), (-25, 10, -2), (-26, 10, -3), (20, 10, 2),
         )
         for dividend, divisor, cents in rows:
-            self.assertEqual(to_the_cent(dividend, divisor), cents, dividend)
+            self.assertEqual(to_the_nearest(dividend, divisor), cents, dividend)
 
     def test_great_amounts_keep_every_cent(self):
-        self.assertEqual(to_the_cent(MOST * 10000, 10000), MOST)
-        self.assertEqual(to_the_cent(MOST * 5000, 10000), 5 * 10 ** 17)
-        self.assertEqual(to_the_cent((MOST - 2) * 5000, 10000), 5 * 10 ** 17 - 2)
+        self.assertEqual(to_the_nearest(MOST * 10000, 10000), MOST)
+        self.assertEqual(to_the_nearest(MOST * 5000, 10000), 5 * 10 ** 17)
+        self.assertEqual(to_the_nearest((MOST - 2) * 5000, 10000), 5 * 10 ** 17 - 2)
 
 
 if __name__ == "__main__":

@@ -31,6 +31,8 @@ WORDS = (
     "NamedTuple TypedDict TYPE_CHECKING abstractmethod"
 ).split()
 UNUSED = "register mro elements open input version_info with_traceback add_note format format_map".split()
+KEYWORDS = {"sorted": ("key", "reverse"), "min": ("key", "default"), "max": ("key", "default"), "sum": ("start",),
+            "enumerate": ("start",), "zip": ("strict",)}
 METHODS_OF_CLASSES = "__init__ __eq__ __repr__ __str__ __len__".split()
 
 
@@ -115,6 +117,18 @@ class TestForms(unittest.TestCase):
             self.assertIn(node, TREES[stem].body)
             for part in node.body:
                 self.assertIsInstance(part, (ast.FunctionDef, ast.Expr))
+
+    def test_plain_values_at_the_top(self):
+        for stem, tree in TREES.items():
+            for node in tree.body:
+                self.assertIsInstance(node, (ast.Expr, ast.ImportFrom, ast.FunctionDef, ast.ClassDef, ast.Assign), stem)
+                if isinstance(node, ast.Assign):
+                    ast.literal_eval(node.value)
+
+    def test_keywords(self):
+        for stem, node in nodes(ast.Call):
+            for keyword in node.keywords:
+                self.assertIn(keyword.arg, KEYWORDS.get(ast.unparse(node.func), ()), (stem, node.lineno))
 
     def test_is_stands_beside_none_true_and_false_alone(self):
         for stem, node in nodes(ast.Compare):

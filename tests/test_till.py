@@ -1,17 +1,9 @@
-"""Points 7 and 8, the money: coin, and what buy pays to whom."""
+"""Points 7, 8 and 17, the money: coin, what buy pays to whom, and pay."""
 
 import unittest
 
-from tests.helper import (MOST, NO_AMOUNTS, ZERO_BELOW, answered, buy, carry_out, coin, coin_bytes, init, last,
-                          load, machine_after, picture, price)
-
-
-def machine_with(accounts, *calls):
-    """A machine after the calls, whose accounts named in the dict have other balances."""
-    machine = machine_after(init(), *calls)
-    for account, cents in accounts.items():
-        machine.accounts[account] = cents
-    return machine
+from tests.helper import (LEAST_WHOLE, MOST, MOST_WHOLE, NO_AMOUNTS, ZERO_BELOW, answered, buy, carry_out, coin,
+                          coin_bytes, init, last, load, machine_after, machine_with, pay, pay_bytes, picture, price)
 
 
 class TestCoin(unittest.TestCase):
@@ -137,6 +129,68 @@ class TestPayment(unittest.TestCase):
         machine = machine_with({0: 0, 1: MOST}, load(0, 0, 1), price(0, 3, 0, 7))
         self.assertEqual(carry_out(machine, coin(7), buy(0, 0), coin(8), coin(7)), [-2, 0, -2, 0])
         self.assertEqual(machine.accounts[:4], [-7, MOST, 7, 0])
+
+
+class TestPay(unittest.TestCase):
+    def test_taken_from_one_and_added_to_the_other(self):
+        machine = machine_after(init(), pay(0, 15, 250), pay(15, 7, 100), pay(7, 0, 1))
+        self.assertEqual(machine.accounts, [-249, 0, 0, 0, 0, 0, 0, 99, 0, 0, 0, 0, 0, 0, 0, 150])
+
+    def test_every_account_may_pay_every_other(self):
+        for payer in range(16):
+            for to in range(16):
+                if payer != to:
+                    expected = [0] * 16
+                    expected[payer] = -5
+                    expected[to] = 5
+                    self.assertEqual(machine_after(init(), pay(payer, to, 5)).accounts, expected)
+
+    def test_to_itself_nothing_is_changed(self):
+        for cents in (0, 1, MOST):
+            for balance in (0, 7, MOST, -MOST):
+                machine = machine_with({4: balance})
+                self.assertEqual(carry_out(machine, pay(4, 4, cents)), [0])
+                self.assertEqual(machine.accounts, [0] * 4 + [balance] + [0] * 11)
+
+    def test_an_amount_of_0(self):
+        machine = machine_with({3: MOST, 4: -MOST})
+        was = picture(machine)
+        self.assertEqual(carry_out(machine, pay(4, 3, 0), pay_bytes(4, 3, ZERO_BELOW)), [0, 0])
+        self.assertEqual(picture(machine), was)
+
+    def test_amounts_of_18_digits(self):
+        machine = machine_after(init(), pay(3, 4, MOST))
+        self.assertEqual(machine.accounts[3:5], [-MOST, MOST])
+        self.assertEqual(carry_out(machine, pay(4, 3, MOST), pay(4, 3, MOST)), [0, 0])
+        self.assertEqual(machine.accounts[3:5], [MOST, -MOST])
+
+    def test_an_account_that_would_have_more_than_18_digits(self):
+        self.assertEqual(answered(init(), pay(3, 4, MOST), pay(5, 4, 1), pay(3, 5, 1), pay(5, 3, 1), pay(4, 3, 1)),
+                         [0, 0, -2, -2, 0, 0])
+        for balances in ({4: MOST - 9}, {3: 9 - MOST}):
+            machine = machine_with(balances)
+            was = picture(machine)
+            self.assertEqual(carry_out(machine, pay(3, 4, 10)), [-2])
+            self.assertEqual(picture(machine), was)
+            self.assertEqual(carry_out(machine, pay(3, 4, 9)), [0])
+
+    def test_outside_the_ranges(self):
+        for account in (-1, 16, LEAST_WHOLE, MOST_WHOLE):
+            self.assertEqual(answered(init(), pay(account, 3, 1), pay(3, account, 1), pay(account, account, 1)),
+                             [0, -1, -1, -1])
+
+    def test_amounts_below_0_and_no_amounts(self):
+        for cents in (-1, -100, -MOST):
+            self.assertEqual(answered(init(), pay(3, 4, cents), pay(3, 3, cents)), [0, -1, -1])
+        for row in NO_AMOUNTS:
+            self.assertEqual(answered(init(), pay_bytes(3, 4, row), pay_bytes(3, 3, row)), [0, -1, -1])
+
+    def test_minus_1_comes_ahead_of_too_many_digits(self):
+        machine = machine_with({3: -MOST, 4: MOST})
+        was = picture(machine)
+        wrong = (pay(3, 16, 1), pay(-1, 4, 1), pay(3, 4, -1), pay_bytes(3, 4, NO_AMOUNTS[0]), pay(3, 4, 1))
+        self.assertEqual(carry_out(machine, *wrong), [-1, -1, -1, -1, -2])
+        self.assertEqual(picture(machine), was)
 
 
 if __name__ == "__main__":

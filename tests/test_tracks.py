@@ -16,12 +16,14 @@ class TestInit(unittest.TestCase):
         self.assertEqual(machine.tracks, [None] * 8)
         self.assertEqual(machine.voices, [None] * 8)
         self.assertEqual(machine.accounts, [0] * 16)
-        self.assertEqual(machine.levels, [0, 0])
+        self.assertEqual((machine.levels, machine.ends, machine.swing), ([0, 0], 0, 0))
         self.assertEqual(machine.echo.frames, [])
 
     def test_a_second_one_forgets_everything(self):
         machine = machine_after(init(), load(1, 3, 5), coin(500), price(1, 4, 100, 30), buy(1, 2), echo(4, 9))
         machine.levels[1] = 5
+        machine.ends = 6
+        machine.swing = 7
         self.assertEqual(carry_out(machine, init()), [0])
         self.assertEqual(picture(machine), picture(Machine()))
 
